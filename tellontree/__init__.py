@@ -1,0 +1,1 @@
+"""Tellontree: telling everybody as soon as possible."""

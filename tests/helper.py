@@ -1,0 +1,160 @@
+"""What the tests share: wrong values, a check of errors, and the tree by its definition."""
+
+import unittest
+
+from tellontree.errors import InvalidCount, TellError
+from tellontree.machines import Machine
+from tellontree.names import names_until
+
+ATTRIBUTES = {
+    "InvalidMachine": ["part"],
+    "InvalidCount": [],
+    "InvalidTime": [],
+    "InvalidTurns": [],
+    "InvalidRoots": ["at"],
+    "InvalidName": ["at"],
+    "InvalidNames": ["at"],
+    "InvalidPlan": ["why", "at"],
+    "InvalidRows": ["at"],
+    "InvalidText": ["line"],
+    "LimitExceeded": ["limit"],
+    "NothingLeft": ["word"],
+}
+
+
+def nested(depth):
+    """Return a list that is nested so deep."""
+    thing = []
+    for _ in range(depth - 1):
+        thing = [thing]
+    return thing
+
+
+NO_INTEGERS = [
+    True, False, 1.0, 0.0, float("nan"), float("inf"), 1j, "1", "", b"1", bytearray(b"1"), [], [1], (), (1,),
+    {}, {1: 1}, {1}, frozenset([1]), range(2), slice(1), len, int, object(), Ellipsis, NotImplemented,
+    nested(20), Machine.of(1, 1), InvalidCount(), Machine,
+]
+
+# Small machines as (letter, gap), with the times up to which they are walked.
+SMALL = [
+    (1, 1, 8), (1, 2, 11), (1, 5, 17), (2, 1, 10), (2, 3, 16), (3, 2, 15), (3, 3, 22), (4, 1, 14), (5, 2, 19),
+    (7, 1, 19), (10, 3, 41),
+]
+
+TURNS = [None, 1, 2, 3, 5, 10 ** 12]
+
+ROOTS = [(0,), [0], (3,), (0, 0), [0, 1], (2, 2, 5), [0, 0, 1, 4, 4, 9]]
+
+# With the letter time 10 ** 9 and the gap 1, just 10 ** 40 hands are known at FULL_TIME.
+FULL_ROOTS = [0, 1055872113, 2182341603, 3189957291, 4199302009]
+FULL_TIME = 5260516557
+
+
+class TellCase(unittest.TestCase):
+    """A test case that can ask for an error with its attributes."""
+
+    def assert_raises(self, error, function, *args, **named):
+        """Check that the call raises an error like this one."""
+        try:
+            result = function(*args, **named)
+        except TellError as caught:
+            self.assertIs(type(caught), type(error), (function, args, named, caught))
+            for attribute in ATTRIBUTES[type(error).__name__]:
+                wanted = getattr(error, attribute)
+                got = getattr(caught, attribute)
+                self.assertEqual((type(got), got), (type(wanted), wanted), (function, args, named))
+            return
+        self.fail(f"{function} {args} {named} returned {result}")
+
+
+def listed_until(*args, **named):
+    """Return the list of what names_until yields."""
+    return list(names_until(*args, **named))
+
+
+def horizon(letter, turns):
+    """Return the horizon, as point 13 says it."""
+    return 120 * letter if turns is None else 40 * letter
+
+
+def walk(letter, gap, turns, roots, until):
+    """Return the time of each name known at until or earlier, by points 9 and 10."""
+    times = {}
+    waiting = [((r,), root) for r, root in enumerate(roots)]
+    while waiting:
+        name, time = waiting.pop()
+        if time > until:
+            continue
+        times[name] = time
+        number = 0
+        start = time
+        while start + letter <= until and (turns is None or number < turns):
+            waiting.append((name + (number,), start + letter))
+            number += 1
+            start += gap
+    return times
+
+
+def in_order(times):
+    """Return the names in the order of point 12."""
+    return sorted(times, key=lambda name: (times[name], len(name), name))
+
+
+def small_trees():
+    """Yield machine, turns, roots, the end of the walk and the times of the names, for small machines."""
+    for letter, gap, until in SMALL:
+        for turns in TURNS:
+            for roots in ROOTS:
+                times = walk(letter, gap, turns, roots, until)
+                yield Machine.of(letter, gap), turns, roots, until, times
+
+
+def count_table(letter, gap, turns, until):
+    """Return A(0) to A(until) by the recurrence of point 17."""
+    table = []
+
+    def before(t):
+        return table[t] if t >= 0 else 0
+
+    for t in range(until + 1):
+        if t < gap:
+            # Nobody has begun a second sending: the tree is still a chain.
+            table.append(t // letter + 1)
+        else:
+            late = 0 if turns is None else before(t - letter - turns * gap)
+            table.append(before(t - gap) + before(t - letter) - late)
+    return table
+
+
+def tuple_table(turns, most_items, most_sum):
+    """Return how many tuples of k items have the sum j, as table[k][j], item by item."""
+    table = [[1] + [0] * most_sum]
+    for _ in range(most_items):
+        last = table[-1]
+        row = []
+        for j in range(most_sum + 1):
+            least = 0 if turns is None else max(0, j - turns + 1)
+            row.append(sum(last[least:j + 1]))
+        table.append(row)
+    return table
+
+
+def counted_place(letter, gap, turns, roots, name):
+    """Return the place of a name by points 10 and 12, counting tuples item by item."""
+    depth = len(name) - 1
+    time = roots[name[0]] + depth * letter + sum(name[1:]) * gap
+    table = tuple_table(turns, time // letter, time // gap)
+    place = 0
+    for r, root in enumerate(roots):
+        for k in range((time - root) // letter + 1):
+            for j in range((time - root - k * letter) // gap + 1):
+                known = root + k * letter + j * gap
+                if (known, k, r) < (time, depth, name[0]):
+                    place += table[k][j]
+    rest = sum(name[1:])
+    for at, item in enumerate(name[1:]):
+        for less in range(item):
+            place += table[depth - at - 1][rest - less]
+        rest -= item
+    return place
