@@ -1,6 +1,6 @@
 """Checks of arguments that several modules make."""
 
-from tellontree.errors import InvalidCount, InvalidName, InvalidRoots, InvalidTime, InvalidTurns
+from tellontree.errors import InvalidCount, InvalidName, InvalidRoots, InvalidRows, InvalidTime, InvalidTurns
 
 MOST_TURNS = 10 ** 12
 MOST_ROOTS = 6
@@ -8,6 +8,9 @@ LATEST_ROOT = 10 ** 12
 LONGEST_NAME = 200
 GREATEST_ITEM = 10 ** 15
 MOST_HANDS = 10 ** 30
+MOST_PLANNED = 100
+MOST_SHARING = 40
+MOST_LETTERS = 40
 
 
 def is_integer(thing):
@@ -68,3 +71,12 @@ def check_name(thing, turns, roots):
     at = wrong_in_name(thing, turns, roots)
     if at is not None:
         raise InvalidName(at)
+
+
+def check_sources(sources, n):
+    """Raise InvalidRows unless the sources are a list of hands, one for each letter."""
+    if not isinstance(sources, (list, tuple)) or not 1 <= len(sources) <= MOST_LETTERS:
+        raise InvalidRows(-1)
+    for at, source in enumerate(sources):
+        if not is_between(source, 0, n - 1):
+            raise InvalidRows(at)

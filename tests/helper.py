@@ -1,6 +1,8 @@
-"""What the tests share: wrong values, a check of errors, and the tree by its definition."""
+"""What the tests share: wrong values, a check of errors, plain searches, and the tree by its definition."""
 
+import random
 import unittest
+from itertools import permutations
 
 from tellontree.errors import InvalidCount, TellError
 from tellontree.machines import Machine
@@ -36,6 +38,12 @@ NO_INTEGERS = [
     nested(20), Machine.of(1, 1), InvalidCount(), Machine,
 ]
 
+# Values that are no list of rows, of names or of sources.
+NO_LISTS = [
+    None, True, 0, 5, 1.5, "", "rows", b"ab", bytearray(b"ab"), {}, {(0, 1, 0): 1}, set(), {(0, 1, 0)}, frozenset(),
+    range(3), slice(1), iter([]), object(), len, Machine.of(1, 1), InvalidCount(),
+]
+
 # Small machines as (letter, gap), with the times up to which they are walked.
 SMALL = [
     (1, 1, 8), (1, 2, 11), (1, 5, 17), (2, 1, 10), (2, 3, 16), (3, 2, 15), (3, 3, 22), (4, 1, 14), (5, 2, 19),
@@ -66,6 +74,62 @@ class TellCase(unittest.TestCase):
                 self.assertEqual((type(got), got), (type(wanted), wanted), (function, args, named))
             return
         self.fail(f"{function} {args} {named} returned {result}")
+
+    def assert_many_of_each(self, kinds, faults):
+        """Check that faults of just these kinds, or None, have come up, and each of them often."""
+        told = [fault if fault is None else fault[0] for fault in faults]
+        self.assertEqual(set(told), {None, *kinds})
+        self.assertGreater(min(told.count(kind) for kind in [None, *kinds]), 50)
+
+
+def wrong_rows(row):
+    """Return things that are no rows although this one is: it begins with hands and ends with a start."""
+    start = row[-1]
+    things = [list(row), row[:-1], row[1:], row + (start,), (), (start,), None, start, "row", {0: 0}, frozenset(row)]
+    for at in range(len(row)):
+        for wrong in (True, None, float(row[at]), str(row[at]), (row[at],), [row[at]], Machine.of(1, 1)):
+            things.append(row[:at] + (wrong,) + row[at + 1:])
+    return things + [row[:-1] + (late,) for late in (-1, 10 ** 15 + 1, -10 ** 30, 10 ** 30)]
+
+
+def wrong_forms(row, most):
+    """Return the faults and the things of wrong form, for lists of at most so many rows like this one."""
+    things = [(-1, thing) for thing in NO_LISTS]
+    things += [(-1, [row] * (most + 1)), (-1, (row,) * (most + 1)), (-1, [None] * (most + 1)), (0, [None] * most)]
+    for wrong in wrong_rows(row):
+        things += [(1, [row, wrong]), (0, (wrong, row)), (2, [row, row, wrong, None])]
+    return [(("form", at), thing) for at, thing in things]
+
+
+def pairs_of(kinds):
+    """Return the kinds alone and in pairs, each pair both ways round, as lists of one or two."""
+    return [[kind] for kind in kinds] + [list(pair) for pair in permutations(kinds, 2)]
+
+
+def some_rows(seed, many):
+    """Yield a letter time, a gap, a number of hands and rows that are nearly a right plan, or one."""
+    source = random.Random(seed)
+    for _ in range(many):
+        n = source.randint(1, 5)
+        hands = list(range(1, n))
+        source.shuffle(hands)
+        rows = [(source.choice([0] + hands[:at]), hand, source.randint(0, 12)) for at, hand in enumerate(hands)]
+        if source.random() < 0.4:
+            rows.append((source.randint(-1, n), source.randint(-1, n), source.randint(0, 12)))
+        if rows and source.random() < 0.1:
+            rows.pop()
+        source.shuffle(rows)
+        yield source.randint(1, 4), source.randint(1, 4), n, rows
+
+
+def least_index(rows, wrong):
+    """Return the least index for which wrong holds, or None."""
+    return next((at for at in range(len(rows)) if wrong(at)), None)
+
+
+def first_found(faults):
+    """Return the first of the faults (why, at) whose place is not None, or None."""
+    return next((found for found in faults if found[1] is not None), None)
 
 
 def listed_until(*args, **named):

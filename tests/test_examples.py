@@ -1,9 +1,13 @@
-"""The worked examples of the document that import from errors, machines, counts and names alone."""
+"""The worked examples of the document, and the examples that stand in its points."""
 
 from tellontree.counts import fewest_turns, layer, least_time, next_time, reach
-from tellontree.errors import InvalidMachine
+from tellontree.errors import InvalidMachine, InvalidPlan
+from tellontree.gathers import gather_ends, gather_fault, heard, turned_plan
+from tellontree.letters import bounds, doing, letters_fault
 from tellontree.machines import Machine
 from tellontree.names import first_names, known_at, name_at, place_of
+from tellontree.plans import best_plan, earliest, ends, fault, latest, names_of, plan_of
+from tellontree.rounds import everybody, least_period, round_plan
 from tests.helper import TellCase
 
 
@@ -41,3 +45,85 @@ class WorkedExamples(TellCase):
             name_at(machine, 6), place_of(machine, (0, 1, 0)), name_at(machine, 5, roots=[0, 1]),
             known_at(machine, (1, 1), roots=[0, 1])]
         self.assertEqual(told, [(0, 1, 0), 6, (1, 1), 6])
+
+    def test_fault(self):
+        machine = Machine.of(3, 2)
+        told = [
+            fault(machine, 3, [(0, 1, 0), (0, 2, 1)]), fault(machine, 3, [(1, 2, 2), (0, 1, 0)]),
+            fault(machine, 3, [(0, 1, 0)])]
+        self.assertEqual(told, [("gap", 1), ("early", 0), ("nobody", 2)])
+
+    def test_ends_of_a_wrong_plan(self):
+        self.assert_raises(InvalidPlan("nobody", 2), ends, Machine.of(3, 2), 3, [(0, 1, 0)])
+
+    def test_best_plan(self):
+        self.assertEqual(best_plan(Machine.of(3, 2), 4), [(0, 1, 0), (0, 2, 2), (1, 3, 3)])
+
+    def test_earliest_and_latest(self):
+        machine = Machine.of(3, 2)
+        plan = [(0, 2, 1), (0, 1, 5), (2, 3, 9)]
+        told = [
+            ends(machine, 4, plan), names_of(machine, 4, plan), earliest(machine, 4, plan),
+            latest(machine, 4, plan, until=14)]
+        self.assertEqual(told, [
+            12, [(0,), (0, 1), (0, 0), (0, 0, 0)], [(0, 2, 0), (0, 1, 2), (2, 3, 3)],
+            [(0, 2, 8), (0, 1, 11), (2, 3, 11)]])
+
+    def test_plan_of(self):
+        self.assertEqual(plan_of(Machine.of(3, 2), [(0,), (0, 1), (0, 0)]), [(0, 1, 2), (0, 2, 0)])
+
+    def test_turned_plan(self):
+        self.assertEqual(turned_plan(Machine(1, 2, 2), 3, [(0, 1, 0), (0, 2, 2)]), [(1, 0, 2), (2, 0, 0)])
+
+    def test_gather_fault(self):
+        machine = Machine(1, 2, 2)
+        told = [
+            gather_fault(machine, 3, [(1, 0, 0), (2, 0, 1)]), gather_fault(machine, 3, [(1, 2, 0), (2, 0, 3)])]
+        self.assertEqual(told, [("gap", 1), ("early", 1)])
+
+    def test_gather_ends_and_heard(self):
+        machine = Machine(1, 2, 2)
+        rows = [(1, 2, 0), (2, 0, 4), (3, 0, 1)]
+        told = [gather_ends(machine, 4, rows), heard(machine, 4, rows, 0, 5), heard(machine, 4, rows, 2, 4)]
+        self.assertEqual(told, [8, [0, 3], [1, 2]])
+
+    def test_letters(self):
+        machine = Machine(1, 2, 2)
+        rows = [(0, 0, 1, 0), (0, 1, 2, 4), (1, 0, 1, 2), (1, 1, 2, 6)]
+        told = [letters_fault(machine, 3, [0, 0], rows), doing(machine, 3, [0, 0], rows, 1, 5)]
+        self.assertEqual(told, [None, ("receiving", 2)])
+
+    def test_busy_letters(self):
+        rows = [(0, 0, 1, 3), (1, 1, 0, 0)]
+        self.assertEqual(letters_fault(Machine(1, 2, 2), 2, [0, 1], rows), ("busy", 1))
+
+    def test_bounds(self):
+        self.assertEqual(bounds(Machine(1, 2, 2), 3, 2), (8, 10))
+
+    def test_rounds(self):
+        machine = Machine(2, 1, 1)
+        told = [least_period(machine, 3), everybody(machine, 3), round_plan(machine, 3, period=2)[:3]]
+        self.assertEqual(told, [5, (8, 10), [(0, 0, 1, 0), (0, 0, 2, 2), (1, 1, 2, 0)]])
+
+
+class ExamplesWithinPoints(TellCase):
+
+    def test_point_55(self):
+        machine = Machine(1, 2, 2)
+        self.assertEqual((machine.letter, machine.gap), (4, 2))
+        turned = turned_plan(machine, 3, [(0, 1, 0), (0, 2, 2)])
+        self.assertEqual(turned, [(1, 0, 2), (2, 0, 0)])
+        self.assertEqual(gather_ends(machine, 3, turned), 6)
+        self.assertEqual(gather_fault(machine, 3, [(1, 0, 0), (2, 0, 1)]), ("gap", 1))
+
+    def test_point_61(self):
+        machine = Machine(1, 2, 2)
+        self.assertEqual(least_time(machine, 3) + machine.gap, 6 + 2)
+        self.assertEqual([least_time(machine, 3, turns=d) for d in (1, 2)], [8, 6])
+        self.assertEqual(bounds(machine, 3, 2), (8, 10))
+
+    def test_point_64(self):
+        machine = Machine(2, 1, 1)
+        self.assertEqual((machine.letter, machine.gap), (5, 2))
+        self.assertEqual(least_period(machine, 3), 5)
+        self.assertEqual(everybody(machine, 3), (8, 10))
