@@ -11,6 +11,8 @@ MOST_HANDS = 10 ** 30
 MOST_PLANNED = 100
 MOST_SHARING = 40
 MOST_LETTERS = 40
+MOST_SIGHTINGS = 60
+LATEST_SIGHTING = 10 ** 20
 
 
 def is_integer(thing):
@@ -71,6 +73,23 @@ def check_name(thing, turns, roots):
     at = wrong_in_name(thing, turns, roots)
     if at is not None:
         raise InvalidName(at)
+
+
+def is_sighting(thing):
+    """Tell whether the thing is a tuple of a name and of a time at which it was seen."""
+    if not isinstance(thing, tuple) or len(thing) != 2:
+        return False
+    name, time = thing
+    return wrong_in_name(name, None, (0,)) is None and is_between(time, 0, LATEST_SIGHTING)
+
+
+def check_sightings(rows):
+    """Raise InvalidRows unless the rows are a list of sightings."""
+    if not isinstance(rows, (list, tuple)) or len(rows) > MOST_SIGHTINGS:
+        raise InvalidRows(-1)
+    for at, row in enumerate(rows):
+        if not is_sighting(row):
+            raise InvalidRows(at)
 
 
 def check_sources(sources, n):

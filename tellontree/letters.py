@@ -16,6 +16,14 @@ def letter_fault(rows, k):
     return None
 
 
+def sending_fault(n, k, thing):
+    """Return the fault of a thing that is no list of rows of k letters for n hands, each looked at alone."""
+    return (
+        form_fault(thing, MOST_SENDINGS, 4)
+        or letter_fault(thing, k)
+        or hand_fault(n, [row[1:3] for row in thing], 0, 0))
+
+
 def learning_fault(machine, n, sources, rows):
     """Return the first fault by which some hand is told a letter twice, never, or by who lacks it."""
     told = [((letter, sender), (letter, receiver), start) for letter, sender, receiver, start in rows]
@@ -41,9 +49,7 @@ def letters_fault(machine, n, sources, thing):
     check_count(n, 2, MOST_SHARING)
     check_sources(sources, n)
     return (
-        form_fault(thing, MOST_SENDINGS, 4)
-        or letter_fault(thing, len(sources))
-        or hand_fault(n, [row[1:3] for row in thing], 0, 0)
+        sending_fault(n, len(sources), thing)
         or learning_fault(machine, n, sources, thing)
         or crowding_fault(machine, thing))
 

@@ -7,18 +7,18 @@ from tellontree.faults import (
 from tellontree.names import first_names, is_name, known_at
 
 
-def fault_of_plan(machine, n, rows):
-    """Return the first fault of rows that have the form of a plan, or None."""
-    return (
-        hand_fault(n, [row[:2] for row in rows], 0, 1)
-        or telling_fault(rows, [0], list(range(n)), machine.letter)
-        or near_fault("gap", [[(sender, start)] for sender, _, start in rows], machine.gap))
+def row_fault(n, thing):
+    """Return the fault of a thing that is no list of rows of a plan for n hands, each looked at alone."""
+    return form_fault(thing, MOST_ROWS, 3) or hand_fault(n, [row[:2] for row in thing], 0, 1)
 
 
 def fault(machine, n, thing):
     """Return the first fault of the thing as a plan for n hands, or None."""
     check_count(n, 1, MOST_PLANNED)
-    return form_fault(thing, MOST_ROWS, 3) or fault_of_plan(machine, n, thing)
+    return (
+        row_fault(n, thing)
+        or telling_fault(thing, [0], list(range(n)), machine.letter)
+        or near_fault("gap", [[(sender, start)] for sender, _, start in thing], machine.gap))
 
 
 def by_start(rows):

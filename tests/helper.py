@@ -4,6 +4,7 @@ import random
 import unittest
 from itertools import permutations
 
+from tellontree.desk import Desk
 from tellontree.errors import InvalidCount, TellError
 from tellontree.machines import Machine
 from tellontree.names import names_until
@@ -35,13 +36,14 @@ def nested(depth):
 NO_INTEGERS = [
     True, False, 1.0, 0.0, float("nan"), float("inf"), 1j, "1", "", b"1", bytearray(b"1"), [], [1], (), (1,),
     {}, {1: 1}, {1}, frozenset([1]), range(2), slice(1), len, int, object(), Ellipsis, NotImplemented,
-    nested(20), Machine.of(1, 1), InvalidCount(), Machine,
+    nested(20), Machine.of(1, 1), InvalidCount(), Machine, Desk(Machine.of(1, 1), 1), Desk,
 ]
 
 # Values that are no list of rows, of names or of sources.
 NO_LISTS = [
     None, True, 0, 5, 1.5, "", "rows", b"ab", bytearray(b"ab"), {}, {(0, 1, 0): 1}, set(), {(0, 1, 0)}, frozenset(),
     range(3), slice(1), iter([]), object(), len, Machine.of(1, 1), InvalidCount(),
+    Desk.holding(Machine.of(1, 1), 2, [(0, 1, 0)]), Desk(Machine.of(1, 1), 2),
 ]
 
 # Small machines as (letter, gap), with the times up to which they are walked.
@@ -99,6 +101,17 @@ def wrong_forms(row, most):
     for wrong in wrong_rows(row):
         things += [(1, [row, wrong]), (0, (wrong, row)), (2, [row, row, wrong, None])]
     return [(("form", at), thing) for at, thing in things]
+
+
+def wrong_sightings():
+    """Return things that are no sightings."""
+    things = [thing for thing in NO_LISTS if not isinstance(thing, tuple)]
+    things += [(), (3,), ((0,),), ((0, 1), 3, 3), [(0, 1), 3], (3, (0, 1)), "01", [[0, 1], 3], ((0, 1), (3,))]
+    names = [thing for thing in NO_LISTS + NO_INTEGERS if thing != (0,)]
+    names += [(), (1,), (-1,), (True,), (False,), (0.0,), ("0",), (0, -1), (0, True), (0, False), (0, 1.0), (0, None)]
+    names += [(0, 10 ** 15 + 1), (0, 0, 10 ** 40), (None, 0), ((0,),), [0], [0, 1], (0,) * 201, "0.1"]
+    times = NO_INTEGERS + [None, -1, -10 ** 20, 10 ** 20 + 1, 10 ** 40]
+    return things + [(name, 3) for name in names] + [((0, 1), time) for time in times]
 
 
 def pairs_of(kinds):

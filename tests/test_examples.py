@@ -1,13 +1,17 @@
 """The worked examples of the document, and the examples that stand in its points."""
 
+from tellontree.bands import band_of, bands, told_back
 from tellontree.counts import fewest_turns, layer, least_time, next_time, reach
-from tellontree.errors import InvalidMachine, InvalidPlan
+from tellontree.desk import Desk
+from tellontree.errors import InvalidMachine, InvalidPlan, InvalidText
 from tellontree.gathers import gather_ends, gather_fault, heard, turned_plan
 from tellontree.letters import bounds, doing, letters_fault
 from tellontree.machines import Machine
 from tellontree.names import first_names, known_at, name_at, place_of
 from tellontree.plans import best_plan, earliest, ends, fault, latest, names_of, plan_of
 from tellontree.rounds import everybody, least_period, round_plan
+from tellontree.sums import least_sum_time, least_summers, most_summed, slower, sum_ends, sum_fault
+from tellontree.texts import read_sightings, write_sheet
 from tests.helper import TellCase
 
 
@@ -105,6 +109,47 @@ class WorkedExamples(TellCase):
         told = [least_period(machine, 3), everybody(machine, 3), round_plan(machine, 3, period=2)[:3]]
         self.assertEqual(told, [5, (8, 10), [(0, 0, 1, 0), (0, 0, 2, 2), (1, 1, 2, 0)]])
 
+    def test_bands(self):
+        self.assertEqual(bands(4), [
+            ((0, 1), (1, 2), 3, 0), ((1, 2), (1, 1), 1, 1), ((1, 1), (2, 1), 2, 0), ((2, 1), None, 1, 2)])
+
+    def test_band_of(self):
+        self.assertEqual([band_of(Machine(0, 2, 2), 4), band_of(Machine(0, 3, 2), 4)], [(1, 1), (2, 0)])
+
+    def test_told_back(self):
+        told = [told_back([((0, 1), 7)]), told_back([((0, 1), 7), ((0, 0, 0), 8)]), told_back([((0, 0), 5)])]
+        self.assertEqual(told, [("line", (1, 6), (1, -1), 6), ("one", (4, 3)), ("line", (5, 1), (0, 1), None)])
+
+    def test_write_sheet(self):
+        told = write_sheet(Machine(1, 2, 2), 3, [(0, 2, 0), (2, 1, 7)]).split("\n")
+        self.assertEqual(told, ["machine 1 2 2", "hands 3", "tell 0 2 0", "tell 2 1 7", ""])
+
+    def test_read_sightings(self):
+        self.assertEqual(read_sightings("seen 0.2.0 11\nseen 0 0\n"), [((0, 2, 0), 11), ((0,), 0)])
+
+    def test_read_wrong_sightings(self):
+        self.assert_raises(InvalidText(2), read_sightings, "seen 0.2 6\nseen 1.0 4\n")
+
+    def test_desk(self):
+        desk = Desk.holding(Machine(1, 2, 2), 3, [(0, 1, 5), (1, 2, 9)])
+        desk.attempt([("tighten",), ("later", 1)])
+        self.assertEqual([desk.plan(), desk.ends(), desk.late(), desk(5)], [[(0, 1, 1), (1, 2, 5)], 9, 3, [0, 1]])
+
+    def test_sums(self):
+        machine = Machine(1, 2, 2)
+        told = [
+            most_summed(machine, 2, 8), most_summed(machine, 3, 10), sum_fault(machine, 2, 8, ([(1, 0, 3)], [7, 4])),
+            sum_fault(machine, 2, 8, ([(1, 0, 3)], [7, 5])), sum_ends(machine, 2, ([(1, 0, 3)], [7, 4])),
+            least_sum_time(machine, 2, 10), least_summers(machine, 10, 16), least_summers(machine, 8, 12)]
+        self.assertEqual(told, [11, 17, None, ("busy", 1), 8, 8, 3, None])
+
+    def test_slower(self):
+        told = [slower(Machine(1, 2, 2)) == Machine.of(5, 2), sum_ends(Machine(1, 2, 2), 3, ([(1, 0, 0)], [1, 1, 0]))]
+        self.assertEqual(told, [True, 5])
+
+    def test_sum_ends_of_a_wrong_plan(self):
+        self.assert_raises(InvalidPlan("nobody", 1), sum_ends, Machine(1, 2, 2), 2, ([], [1, 1]))
+
 
 class ExamplesWithinPoints(TellCase):
 
@@ -127,3 +172,22 @@ class ExamplesWithinPoints(TellCase):
         self.assertEqual((machine.letter, machine.gap), (5, 2))
         self.assertEqual(least_period(machine, 3), 5)
         self.assertEqual(everybody(machine, 3), (8, 10))
+
+    def test_point_65(self):
+        self.assertEqual(bands(4), [
+            ((0, 1), (1, 2), 3, 0), ((1, 2), (1, 1), 1, 1), ((1, 1), (2, 1), 2, 0), ((2, 1), None, 1, 2)])
+
+    def test_point_69(self):
+        self.assertEqual(told_back([((0, 1), 7)]), ("line", (1, 6), (1, -1), 6))
+        self.assertEqual(told_back([((0, 1), 7), ((0, 0, 0), 8)]), ("one", (4, 3)))
+        self.assertEqual(told_back([((0, 1), 7), ((0, 0, 2), 11)]), ("none",))
+
+    def test_point_97(self):
+        machine = Machine(1, 2, 2)
+        slow = slower(machine)
+        self.assertEqual((slow.letter, slow.gap), (5, 2))
+        self.assertEqual([known_at(slow, name) for name in first_names(slow, 5)], [0, 5, 7, 9, 10])
+        self.assertEqual(most_summed(machine, 2, 8), 9 + (8 - 5 - 1))
+        # Hand 1 sends at 3 and is received at 7.
+        self.assertEqual(sum_fault(machine, 2, 8, ([(1, 0, 3)], [7, 4])), None)
+        self.assertEqual(sum_ends(machine, 2, ([(1, 0, 3)], [1, 4])), 8)

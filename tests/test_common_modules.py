@@ -1,4 +1,4 @@
-"""What holds everywhere, points 2 to 4, 7 and the interface: for plans, gathers, letters and rounds."""
+"""What holds everywhere, points 2 to 4, 7 and the interface: for all modules of functions from plans on."""
 
 import copy
 import inspect
@@ -6,9 +6,10 @@ import time
 import unittest
 from itertools import product
 
-from tellontree import gathers, letters, plans, rounds
+from tellontree import bands, gathers, letters, plans, rounds, sums, texts
 from tellontree.errors import (
-    InvalidCount, InvalidNames, InvalidPlan, InvalidRows, InvalidTime, InvalidTurns, LimitExceeded, NothingLeft)
+    InvalidCount, InvalidMachine, InvalidNames, InvalidPlan, InvalidRows, InvalidText, InvalidTime, InvalidTurns,
+    LimitExceeded, NothingLeft)
 from tellontree.machines import Machine
 from tests.helper import TellCase
 
@@ -33,6 +34,18 @@ SIGNATURES = {
     rounds: {
         "round_plan": "(machine, n, *, period=None)", "least_period": "(machine, n)", "everybody": "(machine, n)",
     },
+    bands: {
+        "bands": "(n)", "band_of": "(machine, n)", "explains": "(rows, letter, gap)", "told_back": "(rows)",
+    },
+    sums: {
+        "sum_fault": "(machine, n, time, thing)", "sum_ends": "(machine, n, thing)",
+        "most_summed": "(machine, n, time)", "sum_plan": "(machine, n, time)",
+        "least_sum_time": "(machine, n, count)", "least_summers": "(machine, time, count)", "slower": "(machine)",
+    },
+    texts: {
+        "write_sheet": "(machine, n, rows, *, sources=None)", "read_sheet": "(text)", "write_sightings": "(rows)",
+        "read_sightings": "(text)",
+    },
 }
 
 FUNCTIONS = {word: getattr(module, word) for module in SIGNATURES for word in SIGNATURES[module]}
@@ -41,6 +54,9 @@ PLAN = [(0, 1, 0), (0, 2, 2), (1, 3, 5)]
 GATHER = [(1, 2, 0), (2, 0, 4), (3, 0, 1)]
 SENDINGS = [(0, 0, 1, 0), (0, 1, 2, 4), (1, 0, 1, 2), (1, 1, 2, 6)]
 SHARED = {"n": 3, "sources": [0, 0], "rows": SENDINGS, "hand": 1, "time": 4}
+SUM = ([(1, 0, 3)], [7, 4])
+SEEN = [((0, 2, 0), 12), ((0,), 0), ((0, 1), 6)]
+SHEET = "machine 1 2 2\nhands 3\nsource 1\nsend 0 1 2 7\n"
 
 # Arguments that each function takes without an error, behind the machine and in their order.
 RIGHT = {
@@ -54,16 +70,35 @@ RIGHT = {
     "letters_ends": {"n": 3, "sources": [0, 0], "rows": SENDINGS}, "known_letters": SHARED, "doing": SHARED,
     "bounds": {"n": 3, "k": 2}, "letters_plan": {"n": 3, "k": 2},
     "round_plan": {"n": 3, "period": 5}, "least_period": {"n": 3}, "everybody": {"n": 3},
+    "bands": {"n": 4}, "band_of": {"n": 4}, "explains": {"rows": SEEN, "letter": 4, "gap": 2},
+    "told_back": {"rows": SEEN},
+    "sum_fault": {"n": 2, "time": 8, "thing": SUM}, "sum_ends": {"n": 2, "thing": SUM},
+    "most_summed": {"n": 2, "time": 8}, "sum_plan": {"n": 2, "time": 8}, "least_sum_time": {"n": 2, "count": 11},
+    "least_summers": {"time": 8, "count": 11}, "slower": {},
+    "write_sheet": {"n": 3, "rows": SENDINGS, "sources": [0, 0]}, "read_sheet": {"text": SHEET},
+    "write_sightings": {"rows": SEEN}, "read_sightings": {"text": "seen 0.2.0 11\nseen 0 0\n"},
 }
 
 LISTS = ["names_of", "earliest", "latest", "plan_of", "best_plan", "heard", "turned_plan", "turned_gather",
-         "best_gather", "letters_ends", "known_letters", "letters_plan", "round_plan"]
+         "best_gather", "letters_ends", "known_letters", "letters_plan", "round_plan", "bands", "read_sightings"]
+
+# The kinds of what the functions return that return no list.
+KINDS = {
+    "ends": int, "gather_ends": int, "least_period": int, "bounds": tuple, "everybody": tuple, "doing": tuple,
+    "fault": type(None), "gather_fault": type(None), "letters_fault": type(None), "band_of": tuple, "explains": bool,
+    "told_back": tuple, "sum_fault": type(None), "sum_ends": int, "most_summed": int, "sum_plan": tuple,
+    "least_sum_time": int, "least_summers": int, "slower": Machine, "write_sheet": str, "read_sheet": tuple,
+    "write_sightings": str,
+}
 
 WRONG_N = ("n", 0, InvalidCount())
 WRONG_PLAN = ("plan", [(0, 1, 0), (0, 1, 9)], InvalidPlan("again", 1))
 WRONG_GATHER = ("rows", [(0, 1, 0)], InvalidPlan("hand", 0))
 WRONG_SOURCES = ("sources", [0, 3], InvalidRows(1))
 WRONG_SENDINGS = ("rows", [(0, 0, 1, 0), (2, 0, 1, 0)], InvalidPlan("letter", 1))
+WRONG_SEEN = ("rows", [((0,), 0), ((1,), 0)], InvalidRows(1))
+WRONG_TIME = ("time", -1, InvalidTime())
+WRONG_COUNT = ("count", 0, InvalidCount())
 
 # What each function may find wrong, in the order in which it must be told.
 WRONG = {
@@ -77,12 +112,29 @@ WRONG = {
     "known_letters": [WRONG_N, WRONG_SOURCES, WRONG_SENDINGS], "doing": [WRONG_N, WRONG_SOURCES, WRONG_SENDINGS],
     "bounds": [WRONG_N, ("k", 0, InvalidCount())], "letters_plan": [WRONG_N, ("k", 41, InvalidCount())],
     "round_plan": [WRONG_N, ("period", 0, InvalidTime())], "least_period": [WRONG_N], "everybody": [WRONG_N],
+    "bands": [WRONG_N], "band_of": [WRONG_N], "told_back": [WRONG_SEEN],
+    "explains": [WRONG_SEEN, ("letter", 0, InvalidMachine("letter")), ("gap", 0, InvalidMachine("gap"))],
+    "sum_fault": [WRONG_N, WRONG_TIME], "most_summed": [WRONG_N, WRONG_TIME], "sum_plan": [WRONG_N, WRONG_TIME],
+    "sum_ends": [WRONG_N, ("thing", ([], [1, 1]), InvalidPlan("nobody", 1))],
+    "least_sum_time": [WRONG_N, WRONG_COUNT], "least_summers": [WRONG_TIME, WRONG_COUNT],
+    "slower": [("machine", Machine(BILLION, 0, 1), InvalidMachine("letter"))],
+    "write_sheet": [WRONG_N, WRONG_SOURCES, WRONG_SENDINGS], "read_sheet": [("text", b"", InvalidText(0))],
+    "write_sightings": [WRONG_SEEN], "read_sightings": [("text", "seen 0 1", InvalidText(1))],
 }
 
 
 def right_arguments(word):
     """Return arguments by name, the lists among them new ones."""
-    return dict(machine=Machine(1, 2, 2), **copy.deepcopy(RIGHT[word]))
+    given = copy.deepcopy(RIGHT[word])
+    if "machine" in inspect.signature(FUNCTIONS[word]).parameters:
+        return dict(machine=Machine(1, 2, 2), **given)
+    return given
+
+
+def keyword_only(word):
+    """Return the names of the arguments behind the bare * of the function."""
+    parameters = inspect.signature(FUNCTIONS[word]).parameters
+    return [name for name in parameters if parameters[name].kind == inspect.Parameter.KEYWORD_ONLY]
 
 
 def as_tuples(given):
@@ -104,10 +156,8 @@ class Interface(unittest.TestCase):
                 self.assertEqual(str(inspect.signature(FUNCTIONS[word])), signature)
 
     def test_kinds_of_values(self):
-        kinds = {"ends": int, "gather_ends": int, "least_period": int, "bounds": tuple, "everybody": tuple,
-                 "doing": tuple, "fault": type(None), "gather_fault": type(None), "letters_fault": type(None)}
         for word in RIGHT:
-            self.assertIs(type(FUNCTIONS[word](**right_arguments(word))), kinds.get(word, list), word)
+            self.assertIs(type(FUNCTIONS[word](**right_arguments(word))), KINDS.get(word, list), word)
         for word in ("fault", "gather_fault"):
             self.assertEqual(FUNCTIONS[word](Machine(1, 2, 2), 3, None), ("form", -1))
 
@@ -125,7 +175,7 @@ class Arguments(TellCase):
         for word in RIGHT:
             given = right_arguments(word)
             turned = {name: given[name] for name in reversed(list(given))}
-            named = {name: given.pop(name) for name in ("until", "turns", "period") if name in given}
+            named = {name: given.pop(name) for name in keyword_only(word) if name in given}
             plain = list(given.values())
             with self.subTest(word):
                 self.assertEqual(FUNCTIONS[word](**turned), FUNCTIONS[word](*plain, **named))
@@ -138,6 +188,8 @@ class Arguments(TellCase):
         self.assertEqual(rounds.round_plan(machine, 9), rounds.round_plan(machine, 9, period=None))
         self.assertNotEqual(rounds.round_plan(machine, 9), rounds.round_plan(machine, 9, period=1))
         self.assertNotEqual(plans.best_plan(machine, 9), plans.best_plan(machine, 9, turns=1))
+        self.assertEqual(texts.write_sheet(machine, 9, []), texts.write_sheet(machine, 9, [], sources=None))
+        self.assertNotEqual(texts.write_sheet(machine, 9, []), texts.write_sheet(machine, 9, [], sources=[8]))
 
     def test_until_must_be_given(self):
         self.assertIs(inspect.signature(plans.latest).parameters["until"].default, inspect.Parameter.empty)
@@ -152,7 +204,8 @@ class Arguments(TellCase):
             given = right_arguments(word)
             FUNCTIONS[word](**given)
             self.assertEqual(given, right_arguments(word), word)
-            self.assertEqual(vars(given["machine"]), vars(Machine(1, 2, 2)))
+            if "machine" in given:
+                self.assertEqual(vars(given["machine"]), vars(Machine(1, 2, 2)))
 
     def test_errors_change_nothing(self):
         for word, wrongs in WRONG.items():
@@ -173,6 +226,16 @@ class Arguments(TellCase):
             told.reverse()
             told.append(None)
             self.assertEqual(again, wanted)
+            self.assertEqual(FUNCTIONS[word](**given), wanted)
+
+    def test_lists_in_tuples_are_new(self):
+        for word in ("sum_plan", "read_sheet"):
+            given = right_arguments(word)
+            wanted = copy.deepcopy(FUNCTIONS[word](**given))
+            told = FUNCTIONS[word](**given)
+            for part in told:
+                if isinstance(part, list):
+                    part.append(None)
             self.assertEqual(FUNCTIONS[word](**given), wanted)
 
     def test_earliest_of_an_early_plan_is_a_new_list(self):
@@ -232,13 +295,50 @@ class Quickness(unittest.TestCase):
         rows = self.check(rounds.round_plan, machine, 40)
         self.check(letters.letters_fault, machine, 40, list(range(40)), rows)
         self.check(rounds.everybody, machine, 40)
+        self.check_sums(machine)
+        self.check_texts(machine, plan, sent)
+        self.check(bands.band_of, machine, 20)
+
+    def check_sums(self, machine):
+        ready = self.check(sums.least_sum_time, machine, 40, 10 ** 12)
+        for end in (ready, 10 ** 12):
+            self.check(sums.most_summed, machine, 40, end)
+            self.check(sums.least_summers, machine, end, 10 ** 12)
+            thing = self.check(sums.sum_plan, machine, 40, end)
+            self.check(sums.sum_fault, machine, 40, end, thing)
+            self.check(sums.sum_ends, machine, 40, thing)
+            rows, own = thing
+            self.check(sums.sum_fault, machine, 40, end, (rows + rows * 9, own))
+
+    def check_texts(self, machine, plan, sent):
+        last = [(at % 40, at % 7, 7 + at % 33, 10 ** 15 - at) for at in range(2000)]
+        for n, rows, sources in [(100, plan, None), (100, plan + plan * 3, None), (40, sent, [0] * 40),
+                                 (40, last, [39] * 40)]:
+            text = self.check(texts.write_sheet, machine, n, rows, sources=sources)
+            self.assertEqual(self.check(texts.read_sheet, text)[1:], (n, list(rows), sources))
+
+    def test_without_a_machine(self):
+        long = [((0,) + (10 ** 15 - at,) * 199, 10 ** 20 - at) for at in range(60)]
+        known = [(name, 199 + sum(name)) for name, _ in long]
+        for rows in (long, known, [((0,) * (200 - at), 10 ** 20) for at in range(60)]):
+            self.check(bands.told_back, rows)
+            self.check(bands.explains, rows, 10 ** 20, 10 ** 20)
+            self.assertEqual(self.check(texts.read_sightings, self.check(texts.write_sightings, rows)), rows)
+        for n in range(2, 21):
+            self.check(bands.bands, n)
+        for text in ("7" * 10 ** 6, "seen " + "0." * 10 ** 6, "seen 0 1\n" * 10 ** 5, "\n" * 10 ** 6, " " * 10 ** 6,
+                     "machine 1 1 1\nhands 1\n" + "tell 0 0 0 \n" * 10 ** 5):
+            for read in (texts.read_sheet, texts.read_sightings):
+                begin = time.monotonic()
+                self.assertRaises(InvalidText, read, text)
+                self.assertLess(time.monotonic() - begin, 3)
 
     def check(self, function, *args, **named):
         """Check that the call is quick, and return what it returns."""
         begin = time.monotonic()
         told = function(*args, **named)
         # A call takes some hundredths of a second; a busy computer gets a hundred times as much.
-        self.assertLess(time.monotonic() - begin, 3, (function, args[0].letter, args[0].gap))
+        self.assertLess(time.monotonic() - begin, 3, function)
         return told
 
 
